@@ -6,12 +6,19 @@ TURN = 2
 LIES = 3
 SHORTEST = 4
 FITS = 5
+THINNEST = 6
+CLOSED = 7
+MARK = 8
+MARKS = 9
+CHANGE = 10
 
 MOST_RODS = 10
 LONGEST_ROD = 60
 
 WRONG_ROW = -1
+NO_LENGTH = -1
 NO_SUCH_HINGE = -2
+NO_WAY_SO_SMALL = -6
 
 
 class UnknownCall(ValueError):
@@ -69,6 +76,40 @@ def all_ways(hinge_count):
     return ways
 
 
+def changes(hinges, way):
+    return len([hinge for hinge, other in zip(hinges, way) if hinge != other])
+
+
+# Each rod adds its length or takes it away, whichever way the rods so far go, so
+# distances are enough to go on from: no places, and no rods ahead of these.
+def one_rod_further(distances, rod):
+    further = {}
+    for distance in distances:
+        further[distance + rod] = True
+        further[abs(distance - rod)] = True
+    return further
+
+
+def distances_from_first(rods):
+    distances = {0: True}
+    by_joint = []
+    for rod in rods:
+        distances = one_rod_further(distances, rod)
+        by_joint.append(distances)
+    return by_joint
+
+
+def count_and_first(found):
+    if len(found) == 0:
+        return [0]
+    return [len(found)] + found[0]
+
+
+def least_and_first(ways, numbers):
+    least = min(numbers)
+    return [least, numbers.count(least)] + ways[numbers.index(least)]
+
+
 class FoldingRule:
     def __init__(self):
         self.rods = [1]
@@ -99,18 +140,55 @@ class FoldingRule:
         places = joint_places(self.rods, self.hinges)
         return [len(places)] + places
 
-    def spreads_of(self, ways):
-        return [spread(joint_places(self.rods, way)) for way in ways]
+    def ways(self):
+        return all_ways(len(self.hinges))
+
+    def ways_within(self, length):
+        return [way for way in self.ways() if spread(joint_places(self.rods, way)) <= length]
 
     def shortest(self):
-        ways = all_ways(len(self.hinges))
-        spreads = self.spreads_of(ways)
-        least = min(spreads)
-        return [least, spreads.count(least)] + ways[spreads.index(least)]
+        ways = self.ways()
+        return least_and_first(ways, [spread(joint_places(self.rods, way)) for way in ways])
 
     def fits(self, length):
-        spreads = self.spreads_of(all_ways(len(self.hinges)))
-        return [len([found for found in spreads if found <= length])]
+        return [len(self.ways_within(length))]
+
+    def thinnest(self, length):
+        ways = self.ways_within(length)
+        if len(ways) == 0:
+            return [NO_WAY_SO_SMALL]
+        return least_and_first(ways, [thickness(joint_places(self.rods, way)) for way in ways])
+
+    def closed(self, distance):
+        return count_and_first([way for way in self.ways() if abs(joint_places(self.rods, way)[-1]) == distance])
+
+    def mark(self, length):
+        if length == 0:
+            return [NO_LENGTH]
+        pairs = []
+        for first in range(len(self.rods)):
+            for behind, distances in enumerate(distances_from_first(self.rods[first:]), start=1):
+                if length in distances:
+                    pairs.append([first, first + behind])
+        return count_and_first(pairs)
+
+    def marks(self):
+        marked = {}
+        for first in range(len(self.rods)):
+            for distances in distances_from_first(self.rods[first:]):
+                marked.update(distances)
+        missing = 1
+        while missing in marked:
+            missing += 1
+        return [len([length for length in marked if length >= 1]), missing]
+
+    def change(self, length):
+        ways = self.ways_within(length)
+        if len(ways) == 0:
+            return [NO_WAY_SO_SMALL]
+        needed = [changes(self.hinges, way) for way in ways]
+        fewest = min(needed)
+        return [fewest] + ways[needed.index(fewest)]
 
 
 def numbers_begin(calls, at):
@@ -122,7 +200,7 @@ def numbers_begin(calls, at):
 def numbers_end(calls, at):
     if calls[at] in (RULE, FOLD):
         return at + 2 + calls[at + 1]
-    if calls[at] in (TURN, FITS):
+    if calls[at] in (TURN, FITS, THINNEST, CLOSED, MARK, CHANGE):
         return at + 2
     return at + 1
 
@@ -140,6 +218,16 @@ def answer_of(rule, call, numbers):
         return rule.shortest()
     if call == FITS:
         return rule.fits(numbers[0])
+    if call == THINNEST:
+        return rule.thinnest(numbers[0])
+    if call == CLOSED:
+        return rule.closed(numbers[0])
+    if call == MARK:
+        return rule.mark(numbers[0])
+    if call == MARKS:
+        return rule.marks()
+    if call == CHANGE:
+        return rule.change(numbers[0])
     raise UnknownCall(f"no call has the number {call}")
 
 
