@@ -118,6 +118,11 @@ class Lines(unittest.TestCase):
     def test_the_longest_rows(self):
         self.assertEqual(asked(*[rule(*[1] * 40)] * 20, *[fold(*[0] * 40)] * 20), [[-1]] * 40)
 
+    def test_a_number_that_no_call_has(self):
+        for number in (11, MOST):
+            with self.assertRaises(hinged.UnknownCall):
+                hinged.answers([number])
+
     def test_rows_that_hold_numbers_of_calls(self):
         self.assertEqual(
             asked(rule(4, 3, 5), fold(1, 0), rule(0, 1, 2), fold(3, 4), lies()),
